@@ -1,0 +1,1 @@
+"""What all else stands on: exact numbers and formulas."""

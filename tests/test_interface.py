@@ -2,8 +2,11 @@
 
 import importlib
 import inspect
+import os
 import types
 import unittest
+
+from support import Case
 
 # For each module: its constants, its functions with their parameters, its classes with
 # the parameters of their methods, and their properties.
@@ -23,6 +26,36 @@ INTERFACE = {
             "minus(other) times(other) raised(many) part(degree) derived(place) at(values) put_in(formulas) __bool__() "
             "__eq__(other) __str__()", "letters terms degree")},
     ),
+    "swapsheets.squares.lots": (
+        {"MAX_SUM": 24, "MAX_BEADS": 40, "MAX_FILLED": 60},
+        "lots(total) is_lot(value) is_above(one,other) keepers(lot) renamings(lot) class_size(lot) conjugate(lot) "
+        "squares_of(lot) contents(lot) content_sum(lot) hook(lot,square) hooks_product(lot) dimension(lot) "
+        "less_square(lot) more_square(lot) beads(lot,rows) lot_of_beads(value) rims(lot,length) "
+        "filled_number(lot,number)",
+        {},
+    ),
+    "swapsheets.moving.moves": (
+        {"MOST_PLACES": 24, "MOST_LISTED": 7, "MOST_ROW": 200},
+        "is_move(value) is_swap(size,value) is_row(size,value) is_rising(size,value) is_strict(size,value) moves(size) "
+        "behind(one,other) undone(move) renamed(one,other) cycles(move) kind_of(move) first_move(lot) "
+        "swap_move(size,swap) row_product(size,row) least_number(move) parity(move) strict_row(move) row_of(move,many) "
+        "is_row_of(move,value) row_number(size,many,word)",
+        {},
+    ),
+    "swapsheets.charts.characters": (
+        {"MAX_CHARTED": 14},
+        "character(shape,lot) central_number(shape,lot) character_row(shape) character_column(lot) "
+        "character_table(total) is_character_row(value) rims_put(shape,length) class_products(one,other) "
+        "shares_of(values) values_of(shares)",
+        {},
+    ),
+    "swapsheets.rising.weights": (
+        {"MAX_RISING": 8, "MAX_WEIGHED": 14, "MOST_SWAPS": 200, "MAX_ROWS": 20000},
+        "weighted_number(one,other,many,word) mixed_number(one,other,mix) series_number(one,other,many,weight) "
+        "weight_table(total,word,many) rising_bottom(total) rising_top(one,other) cycle_table(total,number) "
+        "inverse_table(total,number) rising_rows(size,many,move)",
+        {},
+    ),
 }
 ERRORS = {
     "SheetError": None, "InvalidFormula": None, "InvalidLot": None, "InvalidMove": None, "InvalidSwap": None,
@@ -30,6 +63,9 @@ ERRORS = {
     "InvalidPledge": None, "InvalidOperation": None, "ParseError": "spot", "InvalidCount": "value",
     "UnknownName": "name", "NothingToUndo": "wanted", "TooMany": "limit", "Refused": "reason",
 }
+
+
+TOP = os.path.dirname(os.path.dirname(os.path.abspath(__file__)))
 
 
 def told(texts):
@@ -77,3 +113,13 @@ class TestInterface(unittest.TestCase):
             made = error("a")
             if attribute:
                 self.assertEqual(vars(made), {attribute: "a"})
+
+
+class TestReadme(Case):
+    def test_examples(self):
+        with open(os.path.join(TOP, "README.md"), encoding="utf-8") as file:
+            blocks = file.read().split("```")[1::2]
+        examples = [block for block in blocks if ">>> " in block]
+        self.assertTrue(examples)
+        for block in examples:
+            self.runs(block, {})

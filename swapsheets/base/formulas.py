@@ -1,9 +1,8 @@
 """Formulas: sums of fractions times powers of up to eight letters."""
 
-from math import lcm
-
 from swapsheets.base.numbers import check_count, is_count, is_integer, is_number
-from swapsheets.base.numbers import pair_of, pair_text, product_of, reduced, sum_of, whole_power
+from swapsheets.base.numbers import pair_of, pair_text, product_of, reduced, shared_multiple, sum_of
+from swapsheets.base.numbers import whole_power
 from swapsheets.errors import InvalidCount, InvalidFormula, InvalidOperation, TooMany
 
 MOST_LETTERS = 8
@@ -13,12 +12,12 @@ MOST_RAISED = 40
 _MOST_POINTS = 60
 _NAMES = "abcdefgh"
 
-# Sums are multiplied with the exponents of a term packed into one integer, a byte for each
-# letter. Two exponents add up to 120 at most, so no byte runs over, and a byte has its
-# highest bit behind adding 67 just if its exponent is above 60.
-_BYTE = 256
-_LIFT = 0x4343434343434343
-_HIGH = 0x8080808080808080
+# Sums are multiplied with the exponents of a term packed into one integer, eight bits for each
+# letter: two exponents add up to 120 at most, so none runs over into the next one.
+_BITS = 8
+_MASK = 255
+# So many terms of a factor are multiplied before it is seen whether there are too many already.
+_AT_ONCE = 50
 
 
 class Formula:
@@ -235,11 +234,8 @@ def _with_added(formula, other, sign):
     return Formula(formula.letters, kept)
 
 
-def _shared_bottom(numbers):
-    bottom = 1
-    for _, low in numbers:
-        bottom = lcm(bottom, low)
-    return bottom
+def _shared_bottom(terms):
+    return shared_multiple([bottom for _, bottom in terms.values()])
 
 
 def _greatest_exponents(terms, letters):
@@ -249,12 +245,12 @@ def _greatest_exponents(terms, letters):
 def _packed(formula):
     """The shared bottom of all terms, and the dict from packed exponents to tops above it."""
     terms = formula.terms
-    bottom = _shared_bottom(list(terms.values()))
+    bottom = _shared_bottom(terms)
     made = {}
     for exponents, (top, low) in terms.items():
         spot = 0
         for many in exponents:
-            spot = spot * _BYTE + many
+            spot = (spot << _BITS) + many
         made[spot] = top * (bottom // low)
     return bottom, made
 
@@ -263,30 +259,51 @@ def _unpacked(letters, bottom, packed):
     """The formula of a dict from packed exponents to tops above a shared bottom."""
     terms = {}
     for spot, top in packed.items():
-        exponents = [spot // _BYTE ** at % _BYTE for at in range(8)]
-        terms[tuple(exponents[:letters][::-1])] = reduced(top, bottom)
+        exponents = [_exponent_at(spot, place) for place in range(letters)]
+        terms[tuple(exponents[::-1])] = reduced(top, bottom)
     return Formula(letters, terms)
+
+
+def _exponent_at(spot, place):
+    """The exponent of a packed term, the last letter being at the place 0."""
+    return (spot >> _BITS * place) & _MASK
 
 
 def _product(one, other):
     """The product of two packed sums, without terms 0."""
-    made = {}
-    for low, many in one.items():
+    _check_exponents(one, other)
+    made, highest = {}, max(list(other), default=0)
+    for at, low in enumerate(sorted(list(one), reverse=True)):
+        if at % _AT_ONCE == 0:
+            _check_terms(made, low + highest)
         for high, number in other.items():
             spot = low + high
-            made[spot] = made.get(spot, 0) + many * number
-    made = {spot: top for spot, top in made.items() if top != 0}
-    if any([(spot + _LIFT) & _HIGH for spot in made]):
-        raise TooMany(MOST_EXPONENT)
+            made[spot] = made.get(spot, 0) + one[low] * number
+    _check_terms(made, -1)
+    return {spot: top for spot, top in made.items() if top != 0}
+
+
+def _check_exponents(one, other):
+    """Raise the error of an exponent that is too great in the product of two packed sums."""
+    # The greatest exponents of a letter add up, as the product of what stands with them is not 0.
+    for place in range(MOST_LETTERS):
+        tops = [max([_exponent_at(spot, place) for spot in packed], default=0) for packed in (one, other)]
+        if sum(tops) > MOST_EXPONENT:
+            raise TooMany(MOST_EXPONENT)
+
+
+def _check_terms(made, above):
+    """Raise the error of too many terms, if there are so many above what may still change."""
     if len(made) > MOST_TERMS:
-        raise TooMany(MOST_TERMS)
-    return made
+        settled = [spot for spot, top in made.items() if spot > above and top != 0]
+        if len(settled) > MOST_TERMS:
+            raise TooMany(MOST_TERMS)
 
 
 def _put_together(terms, parts):
     """The shared bottom, and the packed sum of all terms, with packed sums in the place of letters."""
     tops = _greatest_exponents(terms, len(parts))
-    shared = _shared_bottom(list(terms.values()))
+    shared = _shared_bottom(terms)
     made, path, products = {}, [], [{0: 1}]
     for exponents, (top, bottom) in terms.items():
         _follow(path, products, exponents, parts)
@@ -329,7 +346,7 @@ def _add_times(made, packed, factor):
 
 def _value_at(terms, values):
     """The value of a sum of terms at fractions, reckoned above one shared bottom."""
-    shared = _shared_bottom(list(terms.values()))
+    shared = _shared_bottom(terms)
     tops = _greatest_exponents(terms, len(values))
     powers = []
     for (top, bottom), most in zip(values, tops):

@@ -1,6 +1,6 @@
 """Exact numbers: integers and fractions, and the products that count choices."""
 
-from math import comb, gcd
+from math import comb, gcd, lcm
 
 from swapsheets.errors import InvalidCount, InvalidOperation
 
@@ -51,6 +51,12 @@ def check_count(value, low, high):
         raise InvalidCount(value)
 
 
+def check_integer(value):
+    """Raise the error of a value that is no integer of at most sixty digits."""
+    if not is_integer(value):
+        raise InvalidCount(value)
+
+
 def check_number(value):
     """Raise the error of a value that is no number."""
     if not is_number(value):
@@ -80,6 +86,26 @@ def sum_of(one, other):
 def product_of(one, other):
     """The product of two fractions."""
     return reduced(one[0] * other[0], one[1] * other[1])
+
+
+def shared_multiple(numbers):
+    """The least common multiple of integers other than 0."""
+    made = 1
+    for number in numbers:
+        made = lcm(made, number)
+    return made
+
+
+def weighed_sum(numbers, pairs):
+    """The fraction that is the sum of all products of an integer and a top above a bottom.
+
+    A pair need not be in lowest terms, and its bottom can be below 0.
+    """
+    shared = shared_multiple([bottom for _, bottom in pairs])
+    total = 0
+    for number, (top, bottom) in zip(numbers, pairs):
+        total = total + number * top * (shared // bottom)
+    return reduced(total, shared)
 
 
 def whole_power(base, many):
@@ -156,8 +182,7 @@ def binomial(top, low):
 
 def falling(top, low):
     """The product of top, top - 1, .., as many as the second one tells."""
-    if not is_integer(top):
-        raise InvalidCount(top)
+    check_integer(top)
     check_count(low, 0, MAX_CHOSEN)
     return _falling_product(top, low)
 

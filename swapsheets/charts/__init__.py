@@ -1,0 +1,1 @@
+"""Characters of diagrams at lots."""

@@ -1,0 +1,1 @@
+"""Moves of places, swaps, and rows of swaps."""

@@ -1,0 +1,1 @@
+"""Rising and strict rows, and weights of rows."""

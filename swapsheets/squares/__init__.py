@@ -1,0 +1,1 @@
+"""Lots and their diagrams."""

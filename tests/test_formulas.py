@@ -74,8 +74,8 @@ class TestFormula(Case):
     def test_errors_of_a_formula(self):
         wrong = NO_TUPLES[:6] + (
             {(1, 0): 1, 1: 1}, {(1,): 1}, {(1, 0, 0): 1}, {(61, 0): 1}, {(-1, 0): 1}, {(True, 0): 1}, {(0, None): 1},
-            {(0, LONG): 1}, {"ab": 1}, {(1, 0): True}, {(1, 0): None}, {(1, 0): (2, 4)}, {(1, 0): (1, 0)}, {(1, 0): "1"},
-            {(1, 0): [1, 2]}, [((1, 0), 1)], (((1, 0), 1),), {(1, 0): A}, {None: None}, A, Formula(2, {}),
+            {(0, LONG): 1}, {"ab": 1}, {(1, 0): True}, {(1, 0): None}, {(1, 0): (2, 4)}, {(1, 0): (1, 0)},
+            {(1, 0): "1"}, {(1, 0): [1, 2]}, [((1, 0), 1)], (((1, 0), 1),), {(1, 0): A}, {None: None}, A, Formula(2, {}),
         )
         self.refuses_in_order(Formula, (2, InvalidCount, (0, 9, -1) + NO_INTEGERS), ({}, InvalidFormula, wrong))
 
@@ -101,7 +101,9 @@ class TestFormula(Case):
     def test_coefficient_at(self):
         self.same([SAMPLES[6].coefficient_at(spot) for spot in ((2, 0), (1, 1), (0, 0), (5, 5), (60, 60))],
                   [(1, 2), (-1, 1), (3, 1), (0, 1), (0, 1)])
-        wrong = NO_TUPLES + ((), (1,), (1, 0, 0), (61, 0), (0, -1), (True, 1), (1, True), (None, 0), (1, [0]), (LONG, 0))
+        wrong = NO_TUPLES + (
+            (), (1,), (1, 0, 0), (61, 0), (0, -1), (True, 1), (1, True), (None, 0), (1, [0]), (LONG, 0),
+        )
         self.refuses_in_order(SAMPLES[6].coefficient_at, ((1, 1), InvalidFormula, wrong))
 
     def test_sums_and_products_by_values(self):
@@ -153,6 +155,19 @@ class TestFormula(Case):
         high = Formula(3, {(0, 0, at): 1 for at in range(61)})
         self.refuses(TooMany, high.times, grid(3, 6, 49).plus(Formula.letter(3, 2)), kept=(60,))
         self.same(Formula(1, {}).times(Formula(1, {(60,): 1})).terms, {})
+
+    def test_products_in_which_much_goes(self):
+        # (1 + a + .. + a^20) (1 - a) has two terms, and so for b: 2,000 in the end, 3,000 on the way.
+        long = Formula(4, {(at, by, 0, 0): 1 for at in range(21) for by in range(30)})
+        ends = (((0, 0), 1), ((0, 1), -1), ((1, 0), -1), ((1, 1), 1))
+        short = Formula(4, {end + (at // 20, at % 20): sign for end, sign in ends for at in range(500)})
+        for made in (long.times(short), short.times(long)):
+            self.same(len(made.terms), 2000)
+            self.same([made.coefficient_at((at, by, 24, 19)) for at in (0, 21) for by in (0, 30)],
+                      [(1, 1), (-1, 1), (-1, 1), (1, 1)])
+        more = long.plus(Formula(4, {(40, 0, 0, 0): 1}))
+        self.refuses(TooMany, more.times, short, kept=(2000,))
+        self.refuses(TooMany, short.times, more, kept=(2000,))
 
     def test_raised(self):
         for one in SAMPLES:
@@ -235,6 +250,8 @@ class TestFormula(Case):
         low = Formula(2, {(at // 60, at % 60): 1 for at in range(1200)})
         high = Formula(2, {(at // 60, at % 60): 1 for at in range(1200, 2400)})
         self.refuses(TooMany, Formula(2, {(1, 0): 1, (0, 1): 1}).put_in, (low, high), kept=(2000,))
+        half = [Formula(2, {(at // 60, at % 60): 1 for at in range(1000 * by, 1000 * by + 1000)}) for by in (0, 1)]
+        self.same(len(Formula(2, {(1, 0): 1, (0, 1): 1}).put_in((half[0], half[1])).terms), 2000)
         # The greatest exponents come first, so here it is the exponent that is told.
         self.refuses(TooMany, Formula(1, {(31,): 1, (1,): 1}).put_in, (square.plus(1),), kept=(60,))
 

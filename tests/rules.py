@@ -353,12 +353,13 @@ def power_faults(tree):
 
 
 def set_faults(tree):
-    """L24: a set stands in `sorted`, in `len`, or behind `in`; here no others are written at all."""
+    """L24: a set stands in `sorted` or `len` without keywords, or behind `in`; no others are written at all."""
     found = []
     let = set()
     for node in ast.walk(tree):
         if isinstance(node, ast.Call) and isinstance(node.func, ast.Name) and node.func.id in ("sorted", "len"):
-            let.update(id(part) for part in node.args)
+            if not node.keywords:
+                let.update(id(part) for part in node.args)
         if isinstance(node, ast.Compare):
             let.update(id(part) for part in node.comparators)
     for node in ast.walk(tree):

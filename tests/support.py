@@ -1,6 +1,7 @@
 """What the tests share: wrong values, calls that must be refused, and the examples of the document."""
 
 import unittest
+from fractions import Fraction
 
 from swapsheets.base.formulas import Formula
 
@@ -10,6 +11,17 @@ LONG = 10 ** 60
 NO_INTEGERS = (
     True, False, None, "", "1", "all", (), (1,), (1, 1), [], [1], {}, {1: 1}, LONG, -LONG, 10 ** 99,
     Formula.plain(1, 1), ((((((((1,),),),),),),),), "x" * 4000,
+)
+# Values that are no dicts from lots with one sum to fractions other than 0, whatever the bound of the sum.
+NO_SUMS = (
+    True, False, None, 0, 1, "", "a", (), (1,), ((1,), (1, 1)), [], [1], [((1,), (1, 1))], LONG, Formula.plain(1, 1),
+    {1: (1, 1)}, {None: (1, 1)}, {"a": (1, 1)}, {True: (1, 1)}, {(0,): (1, 1)}, {(1, 2): (1, 1)}, {(-1,): (1, 1)},
+    {(True,): (1, 1)}, {(2, True): (1, 1)}, {((1,),): (1, 1)}, {(25,): (1, 1)}, {(1,) * 25: (1, 1)}, {(LONG,): (1, 1)},
+    {(1,): (1, 1), (2,): (1, 1)}, {(): (1, 1), (1,): (1, 1)}, {(2, 1): (1, 1), (3,): (1, 1), (2, 2): (1, 1)},
+    {(1,): None}, {(1,): "1"}, {(1,): True}, {(1,): False}, {(1,): 0}, {(1,): (0, 1)}, {(1,): (2, 2)}, {(1,): (2, 4)},
+    {(1,): (1, 0)}, {(1,): (1, -1)}, {(1,): (1,)}, {(1,): (1, 1, 1)}, {(1,): ()}, {(1,): [1, 1]}, {(1,): (True, 1)},
+    {(1,): (1, True)}, {(1,): (None, 1)}, {(1,): ("1", 1)}, {(1,): {}}, {(2, 1): (1, 1), (3,): (0, 1)},
+    {(2, 1): (1, 1), (3,): (2, 6)}, {(1,): Formula.plain(1, 1)}, {(1,): {(1,): (1, 1)}},
 )
 # Values that are no tuples of integers at all.
 NO_TUPLES = (
@@ -29,6 +41,12 @@ ANY_VALUES = NO_INTEGERS + NO_TUPLES + NO_WORDS + (
 def same(one, other):
     """Whether two values are equal and of the same kinds throughout: True is not 1."""
     return one == other and repr(one) == repr(other)
+
+
+def pair(number):
+    """The fraction, as the package has it, of an integer or a Fraction."""
+    found = Fraction(number)
+    return (found.numerator, found.denominator)
 
 
 def first_of(generator_function):

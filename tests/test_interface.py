@@ -56,6 +56,26 @@ INTERFACE = {
         "inverse_table(total,number) rising_rows(size,many,move)",
         {},
     ),
+    "swapsheets.kindred.kinds": (
+        {"MAX_LISTED": 7, "MAX_KINDRED": 8, "MAX_KEPT": 20000, "MAX_KINDS": 6},
+        "class_moves(lot) carrier(one,other) is_carrier(one,other,value) keeping(move) product_number(one,other,third) "
+        "product_table(one,other) rows_of_kinds(lots,third) kinds_product(one,other) power_kind(lot,number) "
+        "roots_number(lot,many)",
+        {},
+    ),
+    "swapsheets.adding.contents": (
+        {"MAX_ADDED": 5, "MOST_MOVED": 6, "MOST_EXPONENT": 40},
+        "power_sum(shape,many) swap_sum(size,place) sum_times(one,other) symmetric_sum(size,word,many) "
+        "made_number(shape,moves_sum) class_formula(lot)",
+        {},
+    ),
+    "swapsheets.linked.numbers": (
+        {"MAX_ENDS": 10, "MAX_LINKED": 14, "MOST_LINKED": 60, "MAX_TRIED": 20000},
+        "genus_of(one,other,many) swaps_of_genus(one,other,genus) numbered_number(one,other,many,*,word) "
+        "linked_number(one,other,many,*,word) numbered_from_linked(one,other,many,*,word) single_number(lot) "
+        "rising_single_number(lot) linked_rows(move,lot,many) is_linked(move,row)",
+        {},
+    ),
 }
 ERRORS = {
     "SheetError": None, "InvalidFormula": None, "InvalidLot": None, "InvalidMove": None, "InvalidSwap": None,
@@ -69,10 +89,18 @@ TOP = os.path.dirname(os.path.dirname(os.path.abspath(__file__)))
 
 
 def told(texts):
-    """Pairs of a name and the list of its parameters."""
+    """Triples of a name, the list of its parameters, and those of them that are passed by keyword."""
     for text in texts.split():
         name, rest = text.rstrip(")").split("(")
-        yield name, [part for part in rest.split(",") if part]
+        ahead, _, behind = rest.partition("*")
+        params, keywords = [[part for part in half.split(",") if part] for half in (ahead, behind)]
+        yield name, params + keywords, keywords
+
+
+def keywords_of(function):
+    """The parameters of a function that are passed by keyword alone."""
+    params = inspect.signature(function).parameters.values()
+    return [param.name for param in params if param.kind is param.KEYWORD_ONLY]
 
 
 class TestInterface(unittest.TestCase):
@@ -85,8 +113,9 @@ class TestInterface(unittest.TestCase):
     def test_functions(self):
         for module, (_, functions, _) in INTERFACE.items():
             found = importlib.import_module(module)
-            for name, params in told(functions):
+            for name, params, keywords in told(functions):
                 function = getattr(found, name)
+                self.assertEqual(keywords_of(function), keywords)
                 self.assertIsInstance(function, types.FunctionType)
                 self.assertEqual(function.__module__, module)
                 self.assertEqual(list(inspect.signature(function).parameters), params, name)
@@ -97,7 +126,7 @@ class TestInterface(unittest.TestCase):
             for name, (methods, properties) in classes.items():
                 own = vars(getattr(found, name))
                 self.assertEqual(own["__module__"], module)
-                for method, params in told(methods):
+                for method, params, _ in told(methods):
                     raw = own[method]
                     function = raw.__func__ if isinstance(raw, classmethod) else raw
                     self.assertEqual(list(inspect.signature(function).parameters)[1:], params, method)

@@ -36,14 +36,15 @@ BROKEN = (
     ("L17", "def f(x):\n    vars = x\n    return vars\n"), ("L17", "x = 'typing'\n"), ("L17", "def f(Enum):\n    return 1\n"),
     ("L19", "def f():\n    try:\n        return 1\n    except TypeError:\n        return 2\n"),
     ("L19", "def f(x):\n    raise x\n"), ("L20", "def f(x, y):\n    return x is y\n"),
-    ("L24", "def f(xs):\n    return [x for x in set(xs)]\n"), ("L24", "def f(x):\n    return {x, 1}\n"),
+    ("L24", "def f(xs):\n    return [x for x in set(xs)]\n"),
+    ("L24", "def f(xs):\n    return sorted(set(xs), reverse=True)\n"), ("L24", "def f(x):\n    return {x, 1}\n"),
     ("L25", "def f(x):\n    return x.format(1)\n"), ("L25", "def f(x):\n    return x.union(x)\n"),
     ("L25", "def f(x):\n    return x.split(sep=',')\n"), ("L25", "def f(x):\n    x.popitem()\n"),
     ("L27", "def f(x, y):\n    return x ** y\n"), ("L27", "def f(x):\n    return x ** 65\n"), ("L27", "x = '5 %'\n"),
     ("L27", "def f(x):\n    for n in range(99):\n        x = x ** n\n    return x\n"), ("L27", "x = 'a\\x07'\n"),
 )
 GOOD = (
-    "from math import gcd\n\nLIMIT = 10 ** 60\n\n\ndef f(xs):\n    return sorted(set(xs), reverse=True), gcd(1, 2)\n",
+    "from math import gcd\n\nLIMIT = 10 ** 60\n\n\ndef f(xs):\n    return sorted(set(xs))[::-1], gcd(1, 2)\n",
     "def f(x):\n    return [x ** n for n in range(9)], x.split(','), x is None, len({y for y in x})\n",
     "from swapsheets.errors import SheetError\n\n\nclass A(SheetError):\n    \"\"\"A type.\"\"\"\n",
 )

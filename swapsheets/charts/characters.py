@@ -2,8 +2,8 @@
 
 from swapsheets.base.numbers import check_count, is_integer, is_number, pair_of, shared_multiple, weighed_sum
 from swapsheets.errors import InvalidOperation, TooMany
-from swapsheets.squares.lots import beads_for, check_lot, check_lots, class_size, dimension, is_lot, keepers, lots
-from swapsheets.squares.lots import rims, shifted_beads
+from swapsheets.squares.lots import beads_for, check_lot, check_lots, check_sum, class_size, dimension, is_told_by_lots
+from swapsheets.squares.lots import keepers, lots, rims, shifted_beads
 
 MAX_CHARTED = 14
 
@@ -11,7 +11,7 @@ MAX_CHARTED = 14
 def character(shape, lot):
     """The character of a diagram at a lot."""
     check_lots(shape, lot)
-    _check_sum(shape)
+    check_sum(shape, MAX_CHARTED)
     states, known = {shape: 1}, {}
     for member in lot:
         states = _led_on(states, member, rims, known)
@@ -26,7 +26,7 @@ def central_number(shape, lot):
 def character_row(shape):
     """The dict from all lots of the sum to the characters of a diagram."""
     check_lot(shape)
-    _check_sum(shape)
+    check_sum(shape, MAX_CHARTED)
     ends = _ends_for_lots({shape: 1}, sum(shape), rims)
     return {lot: ends[lot].get((), 0) for lot in ends}
 
@@ -34,11 +34,23 @@ def character_row(shape):
 def character_column(lot):
     """The dict from all diagrams of the sum to the characters at a lot."""
     check_lot(lot)
-    _check_sum(lot)
+    check_sum(lot, MAX_CHARTED)
     states, known = {(): 1}, {}
     for member in lot:
         states = _led_on(states, member, _rims_on, known)
     return {shape: states.get(shape, 0) for shape in lots(sum(lot))}
+
+
+def character_products(one, other):
+    """The dict from diagrams to the products other than 0 of their characters at two lots of one sum."""
+    here, there = character_column(one), character_column(other)
+    return {shape: here[shape] * there[shape] for shape in here if here[shape] * there[shape] != 0}
+
+
+def central_numbers(lot):
+    """The dict from all diagrams of the sum to their central numbers at a lot."""
+    column, size = character_column(lot), class_size(lot)
+    return {shape: size * column[shape] // dimension(shape) for shape in column}
 
 
 def character_table(total):
@@ -104,7 +116,7 @@ def _rims_on(shape, length):
 def class_products(one, other):
     """For each lot the number of pairs of moves of both kinds that make a told move of its kind."""
     check_lots(one, other)
-    _check_sum(one)
+    check_sum(one, MAX_CHARTED)
     total = sum(one)
     order, table = lots(total), character_table(total)
     places = (order.index(one), order.index(other))
@@ -146,12 +158,7 @@ def _order_and_pairs(value):
 
 def _are_told_by_lots(value):
     """Whether the value is a dict whose keys are all lots of one sum up to 14."""
-    if not isinstance(value, dict) or not value or not all([is_lot(lot) for lot in value]):
+    if not is_told_by_lots(value) or not value:
         return False
-    sums = [sum(lot) for lot in value]
-    return sums[0] <= MAX_CHARTED and min(sums) == max(sums) and len(value) == len(lots(sums[0]))
-
-
-def _check_sum(lot):
-    if sum(lot) > MAX_CHARTED:
-        raise TooMany(MAX_CHARTED)
+    total = sum(list(value)[0])
+    return total <= MAX_CHARTED and len(value) == len(lots(total))

@@ -1,8 +1,8 @@
 """Moves of places, swaps of two places, and rows of swaps."""
 
 from swapsheets.base.numbers import check_count, is_count, rising_sums, strict_sums, whole_power
-from swapsheets.errors import InvalidLot, InvalidMove, InvalidRow, InvalidSwap, UnknownName
-from swapsheets.squares.lots import is_lot
+from swapsheets.errors import InvalidMove, InvalidRow, InvalidSwap, UnknownName
+from swapsheets.squares.lots import check_filled_lot, sorted_lot
 
 MOST_PLACES = 24
 MOST_LISTED = 7
@@ -152,13 +152,12 @@ def cycles(move):
 
 def kind_of(move):
     """The lot of the lengths of all cycles."""
-    return tuple(sorted([len(cycle) for cycle in cycles(move)], reverse=True))
+    return sorted_lot([len(cycle) for cycle in cycles(move)])
 
 
 def first_move(lot):
     """The move of a kind whose cycles take the places in sequence."""
-    if not is_lot(lot) or lot == ():
-        raise InvalidLot("no lot with a sum from 1 to 24")
+    check_filled_lot(lot)
     made = []
     for member in lot:
         start = len(made)
@@ -172,6 +171,18 @@ def swap_move(size, swap):
     if not _is_swap_of(size, swap):
         raise InvalidSwap("no swap of so many places")
     return row_product(size, (swap,))
+
+
+def swaps_of(size):
+    """The list of all swaps of so many places, ascending."""
+    return [(low, high) for low in range(size) for high in range(low + 1, size)]
+
+
+def behind_swap(move, swap):
+    """A move and then a swap."""
+    low, high = swap
+    exchanged = {low: high, high: low}
+    return tuple([exchanged.get(place, place) for place in move])
 
 
 def row_product(size, row):

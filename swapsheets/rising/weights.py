@@ -3,10 +3,10 @@
 from swapsheets.base.formulas import Formula
 from swapsheets.base.numbers import check_count, check_integer, is_count, is_integer, reduced, rising_sums
 from swapsheets.base.numbers import strict_sums, weighed_sum, whole_power
-from swapsheets.charts.characters import character_column, character_table
+from swapsheets.charts.characters import character_products, character_table
 from swapsheets.errors import InvalidMix, InvalidOperation, TooMany
-from swapsheets.moving.moves import ROW_WORDS, check_move_of, check_word, idle_move, row_number
-from swapsheets.squares.lots import check_lots, contents, keepers, lots
+from swapsheets.moving.moves import ROW_WORDS, behind_swap, check_move_of, check_word, idle_move, row_number, swaps_of
+from swapsheets.squares.lots import check_lots, check_sum, contents, keepers, lots
 
 MAX_RISING = 8
 MAX_WEIGHED = 14
@@ -24,8 +24,8 @@ def weighted_number(one, other, many, word):
     check_lots(one, other)
     check_count(many, 0, MOST_SWAPS)
     check_word(word)
-    _check_sum(one, MAX_WEIGHED)
-    products = _character_products(one, other)
+    check_sum(one, MAX_WEIGHED)
+    products = character_products(one, other)
     factors = [_factor(contents(shape), many, word) for shape in products]
     return _number_with(one, other, factors, products)
 
@@ -35,8 +35,8 @@ def mixed_number(one, other, mix):
     check_lots(one, other)
     if not _is_mix(mix):
         raise InvalidMix("no tuple of at most six pairs of a word and a number")
-    _check_sum(one, MAX_WEIGHED)
-    products = _character_products(one, other)
+    check_sum(one, MAX_WEIGHED)
+    products = character_products(one, other)
     factors = [_mixed_factor(contents(shape), mix) for shape in products]
     return _number_with(one, other, factors, products)
 
@@ -47,15 +47,10 @@ def series_number(one, other, many, weight):
     check_count(many, 0, _MOST_ENTRY)
     if not _is_weight(weight):
         raise InvalidMix("no tuple of one to seven integers that begins with 1")
-    _check_sum(one, MAX_WEIGHED)
-    products = _character_products(one, other)
+    check_sum(one, MAX_WEIGHED)
+    products = character_products(one, other)
     factors = [_series_entry(contents(shape), many, weight) for shape in products]
     return _number_with(one, other, factors, products)
-
-
-def _check_sum(lot, limit):
-    if sum(lot) > limit:
-        raise TooMany(limit)
 
 
 def _is_mix(value):
@@ -72,12 +67,6 @@ def _is_weight(value):
     return all([is_integer(number) for number in value]) and value[0] == 1
 
 
-def _character_products(one, other):
-    """The dict from diagrams to the products other than 0 of their characters at both lots."""
-    here, there = character_column(one), character_column(other)
-    return {shape: here[shape] * there[shape] for shape in here if here[shape] * there[shape] != 0}
-
-
 def _number_with(one, other, factors, products):
     """The sum of all factors, times both characters, divided by z of both lots."""
     total = sum([factor * product for factor, product in zip(factors, products.values())])
@@ -88,9 +77,19 @@ def _factor(values, many, word):
     """What stands for rows of a word in the place of the power of the sum of all contents."""
     if word == "all":
         return whole_power(sum(values), many)
+    return word_sums(values, many, word)[many]
+
+
+def word_sums(values, most, word):
+    """The factor of a word at contents, for each number of swaps up to the last one."""
     if word == "rising":
-        return rising_sums(values, many)[many]
-    return strict_sums(values, many)[many]
+        return rising_sums(values, most)
+    if word == "strict":
+        return strict_sums(values, most)
+    powers, base = [1], sum(values)
+    for _ in range(most):
+        powers.append(powers[-1] * base)
+    return powers
 
 
 def _mixed_factor(values, mix):
@@ -193,12 +192,12 @@ def _most_squares(total, size):
 def rising_top(one, other):
     """The rising top of two lots, a formula in one letter."""
     check_lots(one, other)
-    _check_sum(one, MAX_RISING)
+    check_sum(one, MAX_RISING)
     bottom = _bottom_numbers(sum(one))
     # The degree is below that of the bottom, but for less than two places it is 0.
     most = max(len(bottom) - 2, 0)
     series = [0] * (most + 1)
-    for shape, product in _character_products(one, other).items():
+    for shape, product in character_products(one, other).items():
         for many, number in enumerate(rising_sums(contents(shape), most)):
             series[many] = series[many] + product * number
     shared = keepers(one) * keepers(other)
@@ -213,7 +212,7 @@ def rising_rows(size, many, move):
     check_move_of(size, move)
     if row_number(size, many, "rising") > MAX_ROWS:
         raise TooMany(MAX_ROWS)
-    swaps = [(low, high) for low in range(size) for high in range(low + 1, size)]
+    swaps = swaps_of(size)
     waiting = [((), idle_move(size))]
     while waiting:
         row, product = waiting.pop()
@@ -221,12 +220,6 @@ def rising_rows(size, many, move):
             # The least swap is put last, as it is to be taken first.
             for swap in swaps[::-1]:
                 if row == () or row[-1][1] <= swap[1]:
-                    waiting.append((row + (swap,), _behind_swap(product, swap)))
+                    waiting.append((row + (swap,), behind_swap(product, swap)))
         elif product == move:
             yield row
-
-
-def _behind_swap(move, swap):
-    low, high = swap
-    exchanged = {low: high, high: low}
-    return tuple([exchanged.get(place, place) for place in move])

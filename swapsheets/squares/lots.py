@@ -1,7 +1,7 @@
 """Lots, tuples of integers that do not ascend, and their diagrams of squares."""
 
 from swapsheets.base.numbers import check_count, factorial, is_integer
-from swapsheets.errors import InvalidLot, InvalidOperation
+from swapsheets.errors import InvalidLot, InvalidOperation, TooMany
 
 MAX_SUM = 24
 MAX_BEADS = 40
@@ -45,6 +45,39 @@ def check_lots(one, other):
     check_lot(other)
     if sum(one) != sum(other):
         raise InvalidOperation("the lots have unlike sums")
+
+
+def check_filled_lot(value):
+    """Raise the error of a value that is no lot with a sum of at least 1."""
+    if not is_lot(value) or value == ():
+        raise InvalidLot("no lot with a sum from 1 to 24")
+
+
+def check_sum(lot, limit):
+    """Raise the error of a lot whose sum is above a limit."""
+    if sum(lot) > limit:
+        raise TooMany(limit)
+
+
+def sorted_lot(members):
+    """The lot of these members."""
+    return tuple(sorted(members, reverse=True))
+
+
+def lot_without(lot, members):
+    """The lot without some of its members."""
+    left = list(lot)
+    for member in members:
+        left.remove(member)
+    return tuple(left)
+
+
+def is_told_by_lots(value):
+    """Whether the value is a dict from lots with one sum, perhaps without any."""
+    if not isinstance(value, dict) or not all([is_lot(lot) for lot in value]):
+        return False
+    sums = [sum(lot) for lot in value]
+    return max(sums, default=0) == min(sums, default=0)
 
 
 def is_above(one, other):

@@ -1,0 +1,1 @@
+"""Contents of squares, and sums of moves."""

@@ -1,0 +1,1 @@
+"""Kinds of moves, and their products."""

@@ -76,6 +76,33 @@ INTERFACE = {
         "rising_single_number(lot) linked_rows(move,lot,many) is_linked(move,row)",
         {},
     ),
+    "swapsheets.walking.walks": (
+        {"MAX_WALKED": 8, "MAX_SUM": 14, "MAX_MANY": 200, "MAX_FAR": 2000},
+        "walk_table(total) rows_number(one,other,many) rows_from(one,other,many) walked(one,many) power_parts(one,other) "
+        "powers_at(parts,many) least_recursion(total) numbers_to(one,other,most) least_many(one,other) "
+        "any_blocks(one,other) are_blocks(one,other,value)",
+        {},
+    ),
+    "swapsheets.strings.cutting": (
+        {"MAX_CUT": 14, "MOST_CUTS": 200, "MAX_LINKED": 8, "MOST_LINKED": 20},
+        "is_lots_sum(value) cut_apart(lots_sum) joined_up(lots_sum) cut_joined(lots_sum,many) sums_added(one,other) "
+        "lots_pairing(one,other) lots_together(one,other) lots_meeting(one,other) diagram_sum(shape) "
+        "diagram_shares(lots_sum) number_by_cutting(one,other,many) linked_sums(total,many)",
+        {},
+    ),
+    "swapsheets.strings.tales": (
+        {"MOST_STEPS": 12, "MOST_TALES": 20000},
+        "tales(one,other,many) tales_number(one,other,many) tales_sum(one,other,many) linked_sum(one,other,many) "
+        "tale_of(move,row)",
+        {"Tale": ("__init__(lot,steps,ends) lot_behind(many) __eq__(other) __len__() __str__()",
+                  "first_lot last_lot steps ends lengths weight is_linked genus")},
+    ),
+    "swapsheets.oneside.formulas": (
+        {"MAX_SUM": 24, "MAX_GENUS": 20, "MAX_TOLD": 6},
+        "sheet_series(most) one_side_entry(lot,genus) one_side_number(lot,genus) one_side_formula(genus) "
+        "one_side_in_ends(genus,ends) round_rows(size,genus) is_one_swap_less(lot,genus,value) one_swap_less(lot,genus)",
+        {},
+    ),
 }
 ERRORS = {
     "SheetError": None, "InvalidFormula": None, "InvalidLot": None, "InvalidMove": None, "InvalidSwap": None,

@@ -1,0 +1,1 @@
+"""Rows with a single cycle at one side."""

@@ -1,0 +1,1 @@
+"""Cutting and joining of lots, and tales of strings."""

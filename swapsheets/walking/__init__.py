@@ -1,0 +1,1 @@
+"""Walks among kinds, by any number of swaps."""

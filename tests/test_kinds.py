@@ -295,6 +295,7 @@ class TestKinds(Case):
         good = {(2, 1): (1, 2), (3,): (-1, 1)}
         self.refuses_in_order(kinds_product, (good, InvalidOperation, NO_SUMS), (good, InvalidOperation, NO_SUMS))
         self.refuses(InvalidOperation, kinds_product, {(2, 1): (1, 1)}, {(2, 2): (1, 1)})
+        self.refuses(InvalidOperation, kinds_product, good, {(4,): (1, 1), (2, 2): (1, 1)})
         self.refuses(InvalidOperation, kinds_product, {(9,): (1, 1)}, {(10,): (1, 1)})
         self.refuses(InvalidOperation, kinds_product, {(): (1, 1)}, {(1,): (1, 1)})
         for lot in HIGH:

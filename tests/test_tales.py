@@ -42,6 +42,7 @@ NO_STEPS = NO_TUPLES + (
     (("part", 0, True),), (("part", False, 1),), (("part", 0, -1),), (("part", 0, LONG),), (("part", -2, 1),),
     (("part", LONG, 1),), (("part", 0, None),), (("part", 0, 1), ("part", 0, 1)), (("join", 0, 1), ("join", 0, 1)),
     (("join", 0, 1), ("join", 0, 2)), (("join", 0, 1), ("join", 1, 2)), (("join", 0, 1), ("part", 1, 1)),
+    (("part", 0, 1), ("join", 2, 3), ("join", 1, 3)),
     (("join", 0, 1), ("part", 3, 1)), (("join", 0, 1), ("part", 2, 3)), (("part", 0, 1), ("join", 2, 1)),
     (("part", 0, 1), ("part", 2, 1)), (("join", 0, 1), None), ((("join", 0, 1),),), (("joined", 0, 1),), ((("join",), 0, 1),),
     (("join", (0,), 1),), (("part", 0, 1), ("join", 2, 3)) * 6 + (("part", 0, 1),),
@@ -249,8 +250,10 @@ class TestTales(Case):
             self.assertIs(tale != other, True)
         self.assertIn(tale, [None, tale])
         self.assertNotIn(tale, others)
-        # Equal steps and ends behind other first lots.
+        # Equal steps and ends behind other first lots, and equal ends behind other steps.
         self.assertIs(Tale((3, 1), (("join", 0, 1),), (2,)) == Tale((2, 2), (("join", 0, 1),), (2,)), False)
+        around = [Tale((4,), (("part", 0, first), ("join", 1, 2)), (3,)) for first in (1, 2, 3)]
+        self.assertEqual([one == other for one in around for other in around], [True, False, False, False, True, False, False, False, True])
 
     def test_numbers_of_many_tales(self):
         # Also where there are too many to be listed: by steps between lots alone.
@@ -268,25 +271,23 @@ class TestTales(Case):
                 states = behind
 
     def test_twenty_thousand_tales(self):
-        counted = []
-        for total in range(1, 11):
-            for one in lots(total)[::2]:
-                for other in lots(total)[::2]:
-                    for many in range(0, 13, 3):
-                        number = tales_number(one, other, many)
-                        counted.append((number, one, other, many))
-                        if 20000 < number < 60000 or number > 10 ** 9:
-                            self.refuses(TooMany, first_of(tales), one, other, many, kept=(20000,))
-                            self.refuses(TooMany, tales_sum, one, other, many, kept=(20000,))
-                            self.refuses(TooMany, linked_sum, one, other, many, kept=(20000,))
-        number, one, other, many = max([some for some in counted if some[0] <= 20000])
-        self.assertGreater(number, 18000)
+        # No numbers of tales are nearer to 20,000 than these two.
+        one, other, many = (4, 4, 1, 1), (4, 4, 2), 5
+        self.same(tales_number(one, other, many), 19992)
         found = [(tale.steps, tale.ends) for tale in tales(one, other, many)]
-        self.assertEqual(len(found), number)
+        self.assertEqual(len(found), 19992)
         self.assertEqual(found, sorted(set(found)))
         whole = Fraction(*rows_number(one, other, many)) * renamings(one) * renamings(other)
         self.same(tales_sum(one, other, many), pair(whole))
+        self.same(linked_sum(one, other, many), linked_number(one, other, many))
+        self.same(tales_number((3, 2, 2, 2), (4, 3, 2), 5), 20028)
+        for told in (((3, 2, 2, 2), (4, 3, 2), 5), ((5, 2, 2, 1), (7, 2, 1), 5), ((1,) * 10, (10,), 9), ((10,), (10,), 12)):
+            self.refuses(TooMany, first_of(tales), *told, kept=(20000,))
+            self.refuses(TooMany, tales_sum, *told, kept=(20000,))
+            self.refuses(TooMany, linked_sum, *told, kept=(20000,))
         self.assertIsInstance(tales((1,), (1,), 0), types.GeneratorType)
+        # The first one comes soon, however many steps there are that lead elsewhere.
+        self.same(next(tales((2, 1), (2, 1), 12)).steps[:2], (("join", 0, 1), ("part", 2, 1)))
 
     def test_errors_of_tales(self):
         for call in (first_of(tales), tales_number, tales_sum, linked_sum):
@@ -337,6 +338,10 @@ class TestTales(Case):
         # The cycle of the lesser place comes first: (0, 1) and (2,), or (0,) and (1, 2).
         self.same([tale_of((1, 2, 0), ((0, 2),)).steps, tale_of((1, 2, 0), ((0, 2),)).ends], [(("part", 0, 2),), (1, 2)])
         self.same([tale_of((1, 2, 0), ((0, 1),)).steps, tale_of((1, 2, 0), ((0, 1),)).ends], [(("part", 0, 1),), (2, 1)])
+        # By their least places (0, 3) comes ahead of (1, 2), as a first string and as a last one.
+        self.same(tale_of((3, 2, 1, 0), ((0, 3),)).steps, (("part", 0, 1),))
+        self.same(tale_of((0, 1, 2, 3), ((0, 3), (1, 2))).ends, (4, 5))
+        self.same(tale_of((0, 1, 2, 3), ((1, 2), (0, 3))).ends, (5, 4))
         # The longer one of the cycles (0,) and (1, 2) has the name 0.
         self.same([tale_of((0, 2, 1), ((0, 1),)).steps, tale_of((0, 2, 1), ()).ends], [(("join", 0, 1),), (0, 1)])
         self.same([tale_of((0, 2, 1), ((1, 2),)).steps, tale_of((0, 2, 1), ((1, 2),)).ends], [(("part", 0, 1),), (1, 2, 3)])

@@ -84,10 +84,9 @@ def _check_moves(one, other):
 
 def keeping(move):
     """All moves that go with a move, ascending."""
-    check_move(move)
+    around = cycles(move)
     if keepers(kind_of(move)) > MAX_KEPT:
         raise TooMany(MAX_KEPT)
-    around = cycles(move)
     # Where the least places of the first cycles are led; all else follows from this.
     waiting = [()]
     while waiting:

@@ -112,7 +112,7 @@ def lots_meeting(one, other):
 def _taken_together(one, other, ways):
     """What two sums of lots make, lot by lot, by the ways of two lots."""
     here, there = _pairs_of(one), _pairs_of(other)
-    if here and there and _total(here) + _total(there) > MAX_CUT:
+    if _total(here) + _total(there) > MAX_CUT:
         raise TooMany(MAX_CUT)
     made = {}
     for first, entry in here.items():

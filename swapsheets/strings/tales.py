@@ -143,12 +143,9 @@ def _names_used(step):
 
 
 def _are_ends(state, value):
-    lot = _lot_of(state)
-    if not isinstance(value, tuple) or len(value) != len(lot):
+    if not isinstance(value, tuple) or not all([is_count(name, 0, len(state) - 1) for name in value]):
         return False
-    if not all([is_count(name, 0, len(state) - 1) for name in value]) or len(set(value)) != len(value):
-        return False
-    return tuple([state[name] for name in value]) == lot
+    return len(set(value)) == len(value) and tuple([state[name] for name in value]) == _lot_of(state)
 
 
 def _all_lengths(states):
@@ -184,7 +181,6 @@ def _hang_together(steps, states):
 
 def tales(one, other, many):
     """All tales of so many steps from one lot to another one, ascending by their steps and ends."""
-    _check_tales(one, other, many)
     _check_not_too_many(one, other, many)
     for steps, states in _stories(one, other, many):
         for ends in _all_ends(states[-1], other):
@@ -205,6 +201,7 @@ def _check_tales(one, other, many):
 
 
 def _check_not_too_many(one, other, many):
+    """Raise the errors of values that tell no number of tales, and of too many tales."""
     if tales_number(one, other, many) > MOST_TALES:
         raise TooMany(MOST_TALES)
 
@@ -253,14 +250,12 @@ def _all_ends(state, lot):
 
 def tales_sum(one, other, many):
     """The sum of the weights of all tales: a fraction."""
-    _check_tales(one, other, many)
     _check_not_too_many(one, other, many)
     return _sum_of_weights([_weight_of(steps, states) for steps, states in _stories(one, other, many)], other)
 
 
 def linked_sum(one, other, many):
     """The sum of the weights of all tales whose strings hang together: a fraction."""
-    _check_tales(one, other, many)
     _check_not_too_many(one, other, many)
     stories = list(_stories(one, other, many))
     linked = [(steps, states) for steps, states in stories if _hang_together(steps, states)]

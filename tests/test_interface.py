@@ -103,6 +103,24 @@ INTERFACE = {
         "one_side_in_ends(genus,ends) round_rows(size,genus) is_one_swap_less(lot,genus,value) one_swap_less(lot,genus)",
         {},
     ),
+    "swapsheets.rooming.rooms": (
+        {"MOST_ENDS": 6, "MOST_ROUND": 4},
+        "is_ends(value,genus) is_free(ends) walls_for(size) room_of(ends) are_one_room(one,other) ends_number(ends,genus) "
+        "piece(ends,genus) pieces_beside(ends) wall_jump(ends)",
+        {},
+    ),
+    "swapsheets.leastrows.least": (
+        {"MAX_FACTORS": 8, "MAX_CACTI": 20000},
+        "genus_of_row(moves) cactus_number(lots) cacti(lots) is_cactus(lots,value) turned_cactus(lots,value) "
+        "least_rows_number(lot,many) least_rows(move,many) is_least_row(move,many,value)",
+        {},
+    ),
+    "swapsheets.drawn.drawings": (
+        {"MAX_DRAWN": 8, "MAX_MOVES": 5},
+        "are_alike(one,other) any_renaming(one,other) is_renaming(one,other,value) own_renamings(drawing)",
+        {"Drawing": ("__init__(moves) renamed(move) mirrored() rotated() exchanged(place) named_from(root) __eq__(other) "
+                     "__str__()", "size closing kinds pieces genera is_joined")},
+    ),
 }
 ERRORS = {
     "SheetError": None, "InvalidFormula": None, "InvalidLot": None, "InvalidMove": None, "InvalidSwap": None,

@@ -5,9 +5,11 @@ from math import comb
 from swapsheets.base.numbers import check_count, factorial, reduced, whole_power
 from swapsheets.charts.characters import character_products
 from swapsheets.errors import InvalidLot, InvalidRow, TooMany
-from swapsheets.moving.moves import behind_swap, check_move, check_word, is_row, kind_of, row_number, swaps_of
+from swapsheets.moving.moves import behind_swap, check_move, check_word, is_row, joined_places, kind_of, row_number
+from swapsheets.moving.moves import swaps_of
 from swapsheets.rising.weights import weighted_number, word_sums
-from swapsheets.squares.lots import check_filled_lot, check_lots, check_sum, contents, is_lot, lot_without, renamings
+from swapsheets.squares.lots import check_filled_lot, check_lots, check_sum, contents, is_lot, lot_without, lots_within
+from swapsheets.squares.lots import renamings
 
 MAX_ENDS = 10
 MAX_LINKED = 14
@@ -96,17 +98,9 @@ def _numbered_rows(one, other, most, word):
 
 def _pieces(one, other):
     """All pairs of lots of some members of either lot, with one sum above 0, lesser sums first."""
-    theirs = _lots_within(other)
-    found = [(sum(here), here, there) for here in _lots_within(one) for there in theirs if sum(here) == sum(there)]
+    theirs = lots_within(other)
+    found = [(sum(here), here, there) for here in lots_within(one) for there in theirs if sum(here) == sum(there)]
     return [(here, there) for total, here, there in sorted(found) if total > 0]
-
-
-def _lots_within(lot):
-    """All lots of some of the members of a lot, each once."""
-    found = [()]
-    for member in sorted(set(lot))[::-1]:
-        found = [begun + (member,) * many for begun in found for many in range(lot.count(member) + 1)]
-    return found
 
 
 def _linked_rows(numbered, word):
@@ -211,8 +205,4 @@ def is_linked(move, row):
 
 
 def _joins_all(move, row):
-    marks = list(range(len(move)))
-    for place, end in list(enumerate(move)) + list(row):
-        old, new = marks[place], marks[end]
-        marks = [new if mark == old else mark for mark in marks]
-    return min(marks) == max(marks)
+    return len(joined_places(len(move), list(enumerate(move)) + list(row))) == 1

@@ -86,6 +86,11 @@ def moves(size):
         move = _next_move(move)
 
 
+def all_moves(size):
+    """The list of all moves of so many places, ascending."""
+    return list(moves(size))
+
+
 def _next_move(move):
     """The next move in Python's order, None behind the last one."""
     at = len(move) - 2
@@ -163,6 +168,27 @@ def first_move(lot):
         start = len(made)
         made.extend(list(range(start + 1, start + member)) + [start])
     return tuple(made)
+
+
+def joined_places(size, pairs):
+    """The lots of places that pairs of places join, ascending tuples by their least places."""
+    marks = list(range(size))
+    for place, end in pairs:
+        old, new = marks[place], marks[end]
+        if old != new:
+            marks = [new if mark == old else mark for mark in marks]
+    found = {}
+    for place, mark in enumerate(marks):
+        found.setdefault(mark, []).append(place)
+    return tuple([tuple(places) for places in found.values()])
+
+
+def places_of_moves(told):
+    """The lots of places that moves of one number of places join."""
+    pairs = []
+    for move in told:
+        pairs.extend(list(enumerate(move)))
+    return joined_places(len(told[0]), pairs)
 
 
 def swap_move(size, swap):

@@ -11,16 +11,16 @@ MAX_FILLED = 60
 def lots(total):
     """The ascending tuple of all lots with a sum."""
     check_count(total, 0, MAX_SUM)
-    return tuple(_lots_within(total, total))
+    return tuple(_lots_up_to(total, total))
 
 
-def _lots_within(total, most):
+def _lots_up_to(total, most):
     """The ascending list of all lots with a sum and no member above the most."""
     if total == 0:
         return [()]
     found = []
     for first in range(1, min(total, most) + 1):
-        found.extend([(first,) + rest for rest in _lots_within(total - first, first)])
+        found.extend([(first,) + rest for rest in _lots_up_to(total - first, first)])
     return found
 
 
@@ -70,6 +70,14 @@ def lot_without(lot, members):
     for member in members:
         left.remove(member)
     return tuple(left)
+
+
+def lots_within(lot):
+    """All lots of some of the members of a lot, each once."""
+    found = [()]
+    for member in sorted(set(lot))[::-1]:
+        found = [begun + (member,) * many for begun in found for many in range(lot.count(member) + 1)]
+    return found
 
 
 def is_told_by_lots(value):

@@ -1,0 +1,1 @@
+"""Drawings, and what counts them."""

@@ -1,0 +1,1 @@
+"""Least rows of moves."""

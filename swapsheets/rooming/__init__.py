@@ -1,0 +1,1 @@
+"""Rooms and walls of ends."""

@@ -6,15 +6,17 @@ from fractions import Fraction
 from swapsheets.base.formulas import Formula
 from swapsheets.drawn.drawings import Drawing
 from swapsheets.strings.tales import Tale
+from swapsheets.use.desk import Desk
 
 LONG = 10 ** 60
 TALE = Tale((1,), (), (0,))
 DRAWING = Drawing(((0,),))
+DESK = Desk(2)
 
 # Values that are no integers, or none of at most sixty digits.
 NO_INTEGERS = (
     True, False, None, "", "1", "all", (), (1,), (1, 1), [], [1], {}, {1: 1}, LONG, -LONG, 10 ** 99,
-    Formula.plain(1, 1), TALE, DRAWING, ((((((((1,),),),),),),),), "x" * 4000,
+    Formula.plain(1, 1), TALE, DRAWING, DESK, ((((((((1,),),),),),),),), "x" * 4000,
 )
 # Values that are no dicts from lots with one sum to fractions other than 0, whatever the bound of the sum.
 NO_SUMS = (
@@ -26,16 +28,16 @@ NO_SUMS = (
     {(1,): (1, 0)}, {(1,): (1, -1)}, {(1,): (1,)}, {(1,): (1, 1, 1)}, {(1,): ()}, {(1,): [1, 1]}, {(1,): (True, 1)},
     {(1,): (1, True)}, {(1,): (None, 1)}, {(1,): ("1", 1)}, {(1,): {}}, {(2, 1): (1, 1), (3,): (0, 1)},
     {(2, 1): (1, 1), (3,): (2, 6)}, {(1,): Formula.plain(1, 1)}, {(1,): {(1,): (1, 1)}},
-    TALE, {(1,): TALE}, DRAWING, {(1,): DRAWING},
+    TALE, {(1,): TALE}, DRAWING, {(1,): DRAWING}, DESK,
 )
 # Values that are no tuples of integers at all.
 NO_TUPLES = (
     True, False, None, 0, 1, -1, "", "1", "ab", [], [1], [0, 1], {}, {(1,): 1}, LONG, 10 ** 99,
-    Formula.plain(1, 1), Formula(1, {}), TALE, DRAWING,
+    Formula.plain(1, 1), Formula(1, {}), TALE, DRAWING, DESK,
 )
 NO_WORDS = (
     True, False, None, 0, 1, "", "All", "all ", "alls", "none", (), ("all",), ["all"], {}, {"all": 1}, LONG,
-    Formula.plain(1, 1), TALE, DRAWING, "x" * 4000,
+    Formula.plain(1, 1), TALE, DRAWING, DESK, "x" * 4000,
 )
 ANY_VALUES = NO_INTEGERS + NO_TUPLES + NO_WORDS + (
     (1, 0), (0, 1), ((0, 1),), (True, 0), (0, True), (True,), ((0, True),), (None,), ("a",), ((1,),), [(0, 1)],

@@ -121,6 +121,34 @@ INTERFACE = {
         {"Drawing": ("__init__(moves) renamed(move) mirrored() rotated() exchanged(place) named_from(root) __eq__(other) "
                      "__str__()", "size closing kinds pieces genera is_joined")},
     ),
+    "swapsheets.drawn.bases": (
+        {"MAX_TOTAL": 14, "MAX_JOINED": 8, "MAX_KINDS": 6, "MAX_GENUS": 10},
+        "base_number(genus,total,kinds) joined_base_number(genus,total,kinds)",
+        {},
+    ),
+    "swapsheets.torus.covers": (
+        {"MAX_COVERED": 14, "MOST_SWAPS": 12, "MOST_ENTRIES": 40},
+        "cover_number(total,many) linked_cover_number(total,many) torus_formula(genus) basic_series(letter,most) "
+        "series_of(formula,most) series_product(one,other) derived_formula(formula) weight_of(formula) "
+        "formula_of_row(row,weight)",
+        {},
+    ),
+    "swapsheets.braided.braids": (
+        {"MAX_BRAIDED": 12, "MAX_WAY": 4000, "MAX_JUDGED": 20000},
+        "stepped(size,row,step) led_by(size,row,way) joined_lots(size,row) numbers_of(size,row) first_row(size,row) "
+        "are_braided(size,one,other) parting(size,one,other) braid_way(size,one,other) is_braid_way(size,one,other,value) "
+        "braid_lot(size,row) braid_lots_number(size,many)",
+        {},
+    ),
+    "swapsheets.use.desk": (
+        {"MAX_ROWS": 6, "MAX_SWAPS": 12, "MAX_PLEDGES": 10},
+        "is_pledge(value)",
+        {"Desk": (
+            "__init__(size) put(name,row) chain(name,one,other) swap_in(name,place,swap) take_out(name,place) "
+            "braid(name,way) turn(name,move) drop(name) rename(names) demand(pledge) waive(pledge) undo(*,many) "
+            "redo(*,many) trial() during(call) twin() row_named(name) __contains__(x) __len__() __iter__() __eq__(other) "
+            "__str__()", "size names lines pledges changes")},
+    ),
 }
 ERRORS = {
     "SheetError": None, "InvalidFormula": None, "InvalidLot": None, "InvalidMove": None, "InvalidSwap": None,
@@ -171,12 +199,18 @@ class TestInterface(unittest.TestCase):
             for name, (methods, properties) in classes.items():
                 own = vars(getattr(found, name))
                 self.assertEqual(own["__module__"], module)
-                for method, params, _ in told(methods):
+                for method, params, keywords in told(methods):
                     raw = own[method]
                     function = raw.__func__ if isinstance(raw, classmethod) else raw
+                    self.assertEqual(keywords_of(function), keywords)
                     self.assertEqual(list(inspect.signature(function).parameters)[1:], params, method)
                 for attribute in properties.split():
                     self.assertIn(attribute, own)
+
+    def test_kinds_of_bases(self):
+        for name in ("base_number", "joined_base_number"):
+            params = inspect.signature(getattr(importlib.import_module("swapsheets.drawn.bases"), name)).parameters
+            self.assertIs(params["kinds"].kind, inspect.Parameter.VAR_POSITIONAL)
 
     def test_errors(self):
         found = importlib.import_module("swapsheets.errors")

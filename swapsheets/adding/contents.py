@@ -1,9 +1,8 @@
 """Contents of squares, sums of moves, and what they make of diagrams."""
 
-from math import gcd
-
 from swapsheets.base.formulas import Formula
-from swapsheets.base.numbers import check_count, is_integer, reduced, whole_power
+from swapsheets.base.numbers import check_count, is_integer, whole_power
+from swapsheets.base.solving import solution
 from swapsheets.charts.characters import central_number, central_numbers
 from swapsheets.errors import InvalidLot, InvalidMove, InvalidOperation, UnknownName
 from swapsheets.moving.moves import idle_move, is_move, kind_of, swap_move
@@ -132,7 +131,7 @@ def class_formula(lot):
         for shape, number in _made_of_all(lot, total).items():
             values = [total] + [_power_sum(shape, many) for many in range(1, len(counts))]
             rows.append([_term_value(term, values) for term in terms] + [number])
-    return Formula(len(counts), {term: number for term, number in zip(terms, _solution(rows, len(terms)))})
+    return Formula(len(counts), {term: number for term, number in zip(terms, solution(rows, len(terms)))})
 
 
 def _terms_within(counts, weight):
@@ -163,27 +162,3 @@ def _term_value(term, values):
     for many, value in zip(term, values):
         made = made * whole_power(value, many)
     return made
-
-
-def _solution(rows, many):
-    """The fractions that, times the first entries of each row and added up, make its last entry."""
-    kept = []
-    for row in rows:
-        left = row
-        for column, by in kept:
-            left = _without(left, by, column)
-        filled = [column for column in range(many) if left[column] != 0]
-        if filled:
-            kept = [(column, _without(other, left, filled[0])) for column, other in kept] + [(filled[0], left)]
-    return [reduced(row[many], row[column]) for column, row in sorted(kept)]
-
-
-def _without(row, by, column):
-    """A multiple of a row and of another one, added up to have 0 at a column, without common divisors."""
-    if row[column] == 0:
-        return row
-    made = [by[column] * here - row[column] * there for here, there in zip(row, by)]
-    shared = 0
-    for number in made:
-        shared = gcd(shared, number)
-    return [number // max(shared, 1) for number in made]

@@ -225,3 +225,12 @@ def rising_sums(values, most):
         for many in range(1, most + 1):
             sums[many] = sums[many] + value * sums[many - 1]
     return sums
+
+
+def series_times(series, steps):
+    """The product of two series, as far as the first one goes."""
+    made = []
+    for at in range(len(series)):
+        parts = [steps[power] * series[at - power] for power in range(min(at + 1, len(steps)))]
+        made.append(sum(parts))
+    return made

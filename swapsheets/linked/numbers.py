@@ -124,7 +124,7 @@ def _with_shares(pair, row, sign, linked, numbered, word):
             ways = _choices(one[1:], here[1:]) * _choices(other, there)
             if ways > 0:
                 rest = numbered[lot_without(one, here), lot_without(other, there)]
-                shares = _shares(linked[here, there], rest, word)
+                shares = shared_swaps(linked[here, there], rest, word)
                 made = [number + sign * ways * share for number, share in zip(made, shares)]
     return made
 
@@ -137,7 +137,7 @@ def _choices(lot, part):
     return made
 
 
-def _shares(linked, rest, word):
+def shared_swaps(linked, rest, word):
     """For each number of swaps the sum of the products of both numbers, over all ways to part the swaps."""
     made = []
     for many in range(len(rest)):

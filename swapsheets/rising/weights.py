@@ -2,7 +2,7 @@
 
 from swapsheets.base.formulas import Formula
 from swapsheets.base.numbers import check_count, check_integer, is_count, is_integer, reduced, rising_sums
-from swapsheets.base.numbers import strict_sums, weighed_sum, whole_power
+from swapsheets.base.numbers import series_times, strict_sums, weighed_sum, whole_power
 from swapsheets.charts.characters import character_products, character_table
 from swapsheets.errors import InvalidMix, InvalidOperation, TooMany
 from swapsheets.moving.moves import ROW_WORDS, behind_swap, check_move_of, check_word, idle_move, row_number, swaps_of
@@ -104,17 +104,8 @@ def _series_entry(values, many, weight):
     series = [1] + [0] * many
     for content in values:
         steps = [number * whole_power(content, power) for power, number in enumerate(weight)]
-        series = _series_times(series, steps)
+        series = series_times(series, steps)
     return series[many]
-
-
-def _series_times(series, steps):
-    """The product of two series, as far as the first one goes."""
-    made = []
-    for at in range(len(series)):
-        parts = [steps[power] * series[at - power] for power in range(min(at + 1, len(steps)))]
-        made.append(sum(parts))
-    return made
 
 
 def weight_table(total, word, many):
@@ -201,7 +192,7 @@ def rising_top(one, other):
         for many, number in enumerate(rising_sums(contents(shape), most)):
             series[many] = series[many] + product * number
     shared = keepers(one) * keepers(other)
-    tops = _series_times(series, bottom)
+    tops = series_times(series, bottom)
     return Formula(1, {(power,): reduced(top, shared) for power, top in enumerate(tops)})
 
 

@@ -1,0 +1,1 @@
+"""Braid moves of rows of swaps."""

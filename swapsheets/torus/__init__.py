@@ -1,0 +1,1 @@
+"""Covers of a torus."""

@@ -1,0 +1,1 @@
+"""A desk for rows of swaps."""

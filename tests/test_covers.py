@@ -202,12 +202,14 @@ class TestCovers(Case):
         told = [A, B, C, Formula.plain(3, 5), Formula(3, {}), A.times(B).times(C), A.raised(3).plus(C).plus(B.raised(4)).minus(2)]
         told += [some_formula(weight, chance) for weight in range(0, 26, 4)]
         for formula in told:
+            before = str(formula)
             wanted = [power * Fraction(*number) for power, number in enumerate(series_of(formula, 24))]
             derived = derived_formula(formula)
             self.same((type(derived), series_of(derived, 24)), (Formula, row_of(wanted)))
             if weight_of(formula) not in (None, 0):
                 self.assertIn(weight_of(derived), (None, weight_of(formula) + 2))
                 self.assertIs(weight_of(derived) is None, not derived)
+            self.assertEqual(str(formula), before)
         self.assertFalse(derived_formula(Formula.plain(3, 5)))
         # [17.3], and the formula whose series is that of q times the product of all (1 - q ** n) ** 24.
         self.assertTrue(derived_formula(B) == A.times(B).minus(C).times((1, 3)))

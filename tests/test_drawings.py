@@ -25,6 +25,7 @@ raises InvalidCount(1)
 # No tuples of one to five moves of one size from 1 to 8.
 NO_DRAWN = NO_TUPLES + (
     (), (0,), (1, 0), ((),), ((0, 1), (0, 1, 2)), ((1, 0), None), ((1, 0), (1, 1)), ((True, 0),), ((1, False),), ([1, 0],), [(1, 0)],
+    (None, (1, 0)), (0, (1, 0)), ("", (1, 0)), ((), (0,)), ([0, 1], (0, 1)), (True, (0,)), (DRAWING, (0,)),
     ((0,),) * 6, (((0,),),), (tuple(range(9)),), (tuple(range(24)),), ((0, 1), "ab"), ((0, 2),), ((0,), ()), ({0: 0},), (DRAWING,),
 )
 NO_DRAWINGS = (

@@ -32,6 +32,7 @@ raises InvalidOperation
 # No rows of one to eight moves of one number of places.
 NO_MOVE_ROWS = NO_TUPLES + (
     (), (0,), (1, 0), (0, 1), ((),), ((0, 1), (0, 1, 2)), ((1, 0), None), ((1, 0), (1, 1)), ((True, 0),), ((1, False),), ([1, 0],),
+    (None, (1, 0)), (0, (1, 0)), ("", (1, 0)), ((), (0,)), ([0, 1], (0, 1)), (True, (0,)),
     [(1, 0)], ((0,),) * 9, (((0,),),), (tuple(range(25)),), ((0, 1), "ab"), ((0, 2),), ((0,), ()), ({0: 0},),
 )
 # No tuples of one to eight lots.

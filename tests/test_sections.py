@@ -9,7 +9,9 @@ from test_linked import joins
 from test_lots import kind_of_move
 from test_moves import product_by_swaps, rows
 
+from swapsheets.braided.braids import braid_lots_number, first_row
 from swapsheets.charts.characters import character
+from swapsheets.drawn.bases import joined_base_number
 from swapsheets.leastrows.least import cactus_number, least_rows_number
 from swapsheets.linked.numbers import linked_number, numbered_from_linked, numbered_number, rising_single_number, single_number
 from swapsheets.linked.numbers import swaps_of_genus
@@ -17,9 +19,10 @@ from swapsheets.moving.moves import is_rising, is_strict
 from swapsheets.oneside.formulas import one_side_number, round_rows
 from swapsheets.rising.weights import weighted_number
 from swapsheets.rooming.rooms import ends_number, is_ends
-from swapsheets.squares.lots import content_sum, contents, keepers, lots, renamings
+from swapsheets.squares.lots import class_size, content_sum, contents, keepers, lots, renamings
 from swapsheets.strings.cutting import linked_sums, number_by_cutting
 from swapsheets.strings.tales import linked_sum, tales_number, tales_sum
+from swapsheets.torus.covers import linked_cover_number, series_of, torus_formula
 from swapsheets.walking.walks import power_parts, powers_at, rows_from, rows_number
 
 
@@ -128,6 +131,31 @@ class TestSections(Case):
                     number = Fraction(*weighted_number(one, other, many, word)) * keepers(one)
                     self.assertEqual({found.get(move, 0) for move in moves_of(one)}, {int(number)})
                     self.assertEqual(number.denominator, 1)
+
+    def test_all_degrees(self):
+        # [0.18]: by characters, by the linked covers of lesser degrees, and by the formulas for all degrees.
+        for genus in (2, 3):
+            many = 2 * genus - 2
+            found = series_of(torus_formula(genus), 8)
+            for degree in range(1, 9):
+                self.same(found[degree], linked_cover_number(degree, many))
+                if degree > 1:
+                    kinds = ((2,) + (1,) * (degree - 2),) * many
+                    self.same(joined_base_number(1, degree, *kinds), found[degree])
+
+    def test_braid_moves(self):
+        # [0.19]: as many braid lots of linked rows as kinds of products, each for all of its moves.
+        for size, many in ((3, 4), (4, 3), (4, 4), (5, 3)):
+            told = {}
+            for row in rows(size, many):
+                joins_all = joins(tuple(range(size)), row)
+                told.setdefault(first_row(size, row), []).append((product_by_swaps(size, row), joins_all))
+            self.same(braid_lots_number(size, many), len(told))
+            for lot in lots(size):
+                found = [len(rows_of) for rows_of in told.values() if kind_of_move(rows_of[0][0]) == lot and rows_of[0][1]]
+                number = Fraction(*linked_number((1,) * size, lot, many)) / renamings(lot)
+                self.assertEqual(sum(found), number)
+                self.assertEqual(len(found), class_size(lot) if number else 0)
 
     def test_what_is_not_true(self):
         self.assertEqual(rows_number((2,), (2,), 0), (1, 2))

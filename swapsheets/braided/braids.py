@@ -21,7 +21,7 @@ def stepped(size, row, step):
 def led_by(size, row, way):
     """The row behind all steps of a way."""
     _check_row(size, row)
-    if not is_way(len(row), way):
+    if not _is_way(len(row), way):
         raise InvalidWay("no tuple of at most 20,000 steps that are let")
     return _behind_steps(row, way)
 
@@ -45,7 +45,7 @@ def _is_step(many, value):
     return is_integer(value) and 1 <= abs(value) < many
 
 
-def is_way(many, value):
+def _is_way(many, value):
     """Whether the value is a way for rows of so many swaps."""
     if not isinstance(value, tuple) or len(value) > MAX_JUDGED:
         return False
@@ -146,7 +146,7 @@ def braid_way(size, one, other):
 def is_braid_way(size, one, other, value):
     """Whether the value is a way from one row to another one."""
     _check_rows(size, one, other)
-    return is_way(len(one), value) and _behind_steps(one, value) == other
+    return _is_way(len(one), value) and _behind_steps(one, value) == other
 
 
 # Below, a list of swaps is changed step by step, and each step is put to the end of a list of steps.

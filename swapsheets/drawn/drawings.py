@@ -2,8 +2,8 @@
 
 from swapsheets.base.numbers import check_count
 from swapsheets.errors import InvalidDrawing, InvalidOperation
-from swapsheets.moving.moves import behind, check_move_of, cycles, idle_move, is_move, kind_of, places_of_moves, renamed
-from swapsheets.moving.moves import undone
+from swapsheets.moving.moves import are_moves, behind, cycles, idle_move, is_move, kind_of
+from swapsheets.moving.moves import places_of_moves, renamed, undone
 
 MAX_DRAWN = 8
 MAX_MOVES = 5
@@ -13,7 +13,7 @@ class Drawing:
     """Moves of one number of places in a row. It never changes."""
 
     def __init__(self, moves):
-        if not _are_moves(moves):
+        if not are_moves(moves, MAX_MOVES) or len(moves[0]) > MAX_DRAWN:
             raise InvalidDrawing("no tuple of 1 to 5 moves of one size from 1 to 8")
         made = idle_move(len(moves[0]))
         for move in moves:
@@ -57,7 +57,6 @@ class Drawing:
 
     def renamed(self, move):
         """The drawing with other names of the places."""
-        check_move_of(self.size, move)
         return _renamed_by(self, move)
 
     def mirrored(self):
@@ -89,12 +88,6 @@ class Drawing:
     def __str__(self):
         texts = ["+".join([str(member) for member in lot]) for lot in self._kinds]
         return f"drawing of {self.size} places, kinds {' '.join(texts)}"
-
-
-def _are_moves(value):
-    if not isinstance(value, tuple) or not 1 <= len(value) <= MAX_MOVES:
-        return False
-    return all([is_move(move) and len(move) == len(value[0]) <= MAX_DRAWN for move in value])
 
 
 def _genera_of(told, pieces):

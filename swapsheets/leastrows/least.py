@@ -5,7 +5,7 @@ from math import comb
 from swapsheets.base.numbers import check_count, factorial, reduced, whole_power
 from swapsheets.errors import InvalidOperation, TooMany
 from swapsheets.kindred.kinds import class_moves
-from swapsheets.moving.moves import all_moves, check_move, idle_move, is_move, kind_of, least_number, places_of_moves
+from swapsheets.moving.moves import all_moves, are_moves, check_move, idle_move, kind_of, least_number, places_of_moves
 from swapsheets.moving.moves import renamed, undone
 from swapsheets.squares.lots import check_filled_lot, check_sum, is_lot, renamings
 
@@ -17,15 +17,9 @@ _LEAST_FACTORS = 2
 
 def genus_of_row(moves):
     """The genus of a row of moves, None if it does not join all places."""
-    if not _is_row_of_moves(moves):
+    if not are_moves(moves, MAX_FACTORS):
         raise InvalidOperation("no tuple of one to eight moves of one number of places")
     return _genus(moves)
-
-
-def _is_row_of_moves(value):
-    if not isinstance(value, tuple) or not 1 <= len(value) <= MAX_FACTORS:
-        return False
-    return all([is_move(move) and len(move) == len(value[0]) for move in value])
 
 
 def _genus(row):
@@ -130,7 +124,7 @@ def _next_steps(steps, at, left, swaps, known):
 def is_cactus(lots, value):
     """Whether the value is a cactus of the kinds."""
     _check_kinds(lots)
-    if not _is_row_of_moves(value) or tuple([kind_of(move) for move in value]) != lots:
+    if not are_moves(value, MAX_FACTORS) or tuple([kind_of(move) for move in value]) != lots:
         return False
     return _product(value) == _round(sum(lots[0])) and _genus(value) == 0
 
@@ -169,7 +163,7 @@ def least_rows(move, many):
 def is_least_row(move, many, value):
     """Whether the value is a least row of so many moves with a product."""
     _check_least(move, many)
-    if not _is_row_of_moves(value) or len(value) != many or len(value[0]) != len(move):
+    if not are_moves(value, MAX_FACTORS) or len(value) != many or len(value[0]) != len(move):
         return False
     return _product(value) == move and _genus(value) == 0
 

@@ -71,6 +71,15 @@ def check_move_of(size, value):
         raise InvalidMove("no move of so many places")
 
 
+def are_moves(value, most):
+    """Whether the value is a tuple of moves of one number of places, at least one and at most so many."""
+    if not isinstance(value, tuple) or not 1 <= len(value) <= most:
+        return False
+    if not all([is_move(move) for move in value]):
+        return False
+    return all([len(move) == len(value[0]) for move in value])
+
+
 def check_word(word):
     """Raise the error of a word that is none for rows."""
     if word not in ROW_WORDS:

@@ -180,12 +180,11 @@ def _together(ends):
 
 
 def _string_number(ends, genus):
-    """The number of ends and a string that makes their sum 0, times the length of this string."""
-    value, form = _together(ends)
+    """The number of ends with a sum above 0 and a string that makes it 0, times the length of this string."""
+    value, length = _together(ends)
     if len(ends) == 1 and genus == 0:
-        return Formula.plain(form.letters, 1)
-    length = form if value > 0 else form.times(-1)
-    return length.times(_number_of(ends + [(-value, form.times(-1))], genus))
+        return Formula.plain(length.letters, 1)
+    return length.times(_number_of(ends + [(-value, length.times(-1))], genus))
 
 
 def _loop_number(ends):

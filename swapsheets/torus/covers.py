@@ -86,7 +86,7 @@ def series_of(formula, most):
     check_count(most, 0, MOST_ENTRIES)
     terms = formula.terms
     bottom = shared_multiple([low for _, low in terms.values()])
-    powers = [_powers_of(letter, place, terms, most) for place, letter in enumerate(_SERIES)]
+    powers = [_powers_of(letter, place, terms, most) for place, letter in enumerate(list(_SERIES))]
     # The letters are put in one after the other, so that each of their products is reckoned just once.
     by_two, by_one, made = {}, {}, [0] * (most + 1)
     for (first, second, third), (top, low) in terms.items():

@@ -1,9 +1,9 @@
 """A desk: named rows of swaps, the pledges that they have to keep, and changes that can be taken back."""
 
 from swapsheets.base.numbers import check_count, is_integer, is_name
-from swapsheets.braided.braids import are_braided, is_way, led_by
+from swapsheets.braided.braids import are_braided, led_by
 from swapsheets.errors import InvalidCount, InvalidOperation, InvalidPledge, InvalidRow, InvalidSwap
-from swapsheets.errors import InvalidWay, NothingToUndo, Refused, TooMany, UnknownName
+from swapsheets.errors import NothingToUndo, Refused, TooMany, UnknownName
 from swapsheets.moving.moves import check_move_of, is_move, is_rising, is_swap, joined_places, kind_of, row_product
 from swapsheets.squares.lots import is_lot
 
@@ -121,8 +121,6 @@ class Desk:
     def braid(self, name, way):
         """Lead a row by the braid moves of a way."""
         row = self.row_named(name)
-        if not is_way(len(row), way):
-            raise InvalidWay("no way for a row of so many swaps")
         return self._with_row(name, led_by(self._size, row, way))
 
     def turn(self, name, move):

@@ -35,6 +35,8 @@ NEVER_SPELT = re.compile(
 )
 BAD_STARTS = ("_wall", "_pe_", "_dcw_", "_enum_", "_cm_", "_twin_re_", "_lay_", "_law_", "_stub_", "_sre", "_WallAttr")
 TAKES_A_LIST = ("any", "all", "min", "max", "sum", "sorted")
+CHANGING = ("append", "clear", "extend", "insert", "pop", "remove", "reverse", "setdefault", "update", "add", "discard",
+            "sort")
 CAUGHT_FREELY = ("KeyError", "ZeroDivisionError", "ValueError", "LookupError", "IndexError")
 FUNCTIONS = (ast.FunctionDef, ast.AsyncFunctionDef)
 BARRED_NODES = (
@@ -50,7 +52,8 @@ def faults(path, text, package):
     own = own_attributes(package)
     for node in ast.walk(tree):
         found += node_faults(node) + name_faults(node) + call_faults(node, own)
-    return found + binding_faults(tree) + word_faults(text, tree) + power_faults(tree) + set_faults(tree)
+    found += binding_faults(tree) + word_faults(text, tree) + power_faults(tree) + set_faults(tree)
+    return found + walk_faults(tree)
 
 
 def lines_faults(text):
@@ -366,4 +369,68 @@ def set_faults(tree):
         is_call = isinstance(node, ast.Call) and isinstance(node.func, ast.Name) and node.func.id in ("set", "frozenset")
         if (is_call or isinstance(node, (ast.Set, ast.SetComp))) and id(node) not in let:
             found.append(f"L24 {node.lineno} a set that is kept or iterated")
+    return found
+
+
+def owner(node):
+    """The name that an expression such as `box.rows[0]` begins with, or `None`."""
+    while isinstance(node, (ast.Attribute, ast.Subscript)):
+        node = node.value
+    return node.id if isinstance(node, ast.Name) else None
+
+
+def choices(node):
+    """The expressions one of which is the value of a choice, such as `a if c else b`."""
+    if isinstance(node, ast.IfExp):
+        return choices(node.body) + choices(node.orelse)
+    if isinstance(node, ast.BoolOp):
+        return [part for value in node.values for part in choices(value)]
+    return [node]
+
+
+def shared_names(scope):
+    """A dict from names of a function to sets of all names that may mean the same value, by plain assignments."""
+    groups = {}
+    for node in ast.walk(scope):
+        if not isinstance(node, ast.Assign):
+            continue
+        for target in node.targets:
+            paired = isinstance(target, ast.Tuple) and isinstance(node.value, ast.Tuple)
+            for left, right in zip(target.elts, node.value.elts) if paired else [(target, node.value)]:
+                for part in choices(right):
+                    if isinstance(left, ast.Name) and isinstance(part, ast.Name):
+                        both = groups.get(left.id, {left.id}) | groups.get(part.id, {part.id})
+                        groups.update({name: both for name in both})
+    return groups
+
+
+def walked_names(node):
+    """The names of what a loop over an expression walks, by a view, `enumerate`, `zip` or `reversed` too."""
+    if isinstance(node, ast.Call) and isinstance(node.func, ast.Attribute):
+        return walked_names(node.func.value) if node.func.attr in ("items", "keys", "values") else []
+    if isinstance(node, ast.Call):
+        over = isinstance(node.func, ast.Name) and node.func.id in ("enumerate", "zip", "reversed")
+        return [name for part in node.args for name in walked_names(part)] if over else []
+    return [owner(part) for part in choices(node) if owner(part)]
+
+
+def changed_name(node):
+    """The name of what a node changes in place, or `None`."""
+    if isinstance(node, ast.Call) and isinstance(node.func, ast.Attribute) and node.func.attr in CHANGING:
+        return owner(node.func.value)
+    if isinstance(node, ast.AugAssign):
+        return owner(node.target)
+    return owner(node) if isinstance(node, ast.Subscript) and not isinstance(node.ctx, ast.Load) else None
+
+
+def walk_faults(tree):
+    """L23: what a loop walks is not changed in it, by none of the names that it has in the function."""
+    found = []
+    for scope in [node for node in ast.walk(tree) if isinstance(node, FUNCTIONS)]:
+        groups = shared_names(scope)
+        for loop in [node for node in ast.walk(scope) if isinstance(node, ast.For)]:
+            walked = [name for told in walked_names(loop.iter) for name in groups.get(told, [told])]
+            for node in [part for row in loop.body for part in ast.walk(row)]:
+                if changed_name(node) in walked:
+                    found.append(f"L23 {node.lineno} what the loop of line {loop.lineno} walks is changed")
     return found

@@ -36,6 +36,13 @@ BROKEN = (
     ("L17", "def f(x):\n    vars = x\n    return vars\n"), ("L17", "x = 'typing'\n"), ("L17", "def f(Enum):\n    return 1\n"),
     ("L19", "def f():\n    try:\n        return 1\n    except TypeError:\n        return 2\n"),
     ("L19", "def f(x):\n    raise x\n"), ("L20", "def f(x, y):\n    return x is y\n"),
+    ("L23", "def f(xs):\n    for x in xs:\n        xs.append(x)\n"),
+    ("L23", "def f(xs):\n    for k, x in enumerate(xs):\n        xs[k] = x + 1\n"),
+    ("L23", "def f(d):\n    for k, x in d.items():\n        del d[k]\n"),
+    ("L23", "def f(xs, ys):\n    for x in xs if ys else ys:\n        ys.pop()\n"),
+    ("L23", "def f(box):\n    for x in box.rows:\n        box.rows += [x]\n"),
+    ("L23", "def f(xs):\n    ys = xs\n    for x in xs:\n        ys.append(x)\n"),
+    ("L23", "def f(d):\n    for _ in range(2):\n        e = {}\n        for k in d:\n            e[k] = 1\n        d = e\n"),
     ("L24", "def f(xs):\n    return [x for x in set(xs)]\n"),
     ("L24", "def f(xs):\n    return sorted(set(xs), reverse=True)\n"), ("L24", "def f(x):\n    return {x, 1}\n"),
     ("L25", "def f(x):\n    return x.format(1)\n"), ("L25", "def f(x):\n    return x.union(x)\n"),
@@ -46,6 +53,8 @@ BROKEN = (
 GOOD = (
     "from math import gcd\n\nLIMIT = 10 ** 60\n\n\ndef f(xs):\n    return sorted(set(xs))[::-1], gcd(1, 2)\n",
     "def f(x):\n    return [x ** n for n in range(9)], x.split(','), x is None, len({y for y in x})\n",
+    "def f(d):\n    for _ in range(2):\n        e = {}\n        for k in list(d):\n            e[k] = 1\n        d = e\n",
+    "def f(xs):\n    ys = []\n    for k, x in enumerate(xs):\n        ys.append(x)\n        ys[k] = 1\n    return ys\n",
     "from swapsheets.errors import SheetError\n\n\nclass A(SheetError):\n    \"\"\"A type.\"\"\"\n",
 )
 

@@ -264,7 +264,8 @@ def braid_lots_number(size, many):
     found = {(idle_move(size), ()): True}
     for _ in range(many):
         longer = {}
-        for product, told in found:
+        # A list, as behind the loop `longer` takes the name of what is walked.
+        for product, told in list(found):
             for swap in swaps_of(size):
                 longer[behind_swap(product, swap), _with_swap(told, swap)] = True
         found = longer
